@@ -866,9 +866,9 @@ func TestTurnsAreCounted(t *testing.T) {
 	}
 }
 
-// A refused turn leaves the world as it is, whichever of its parts is wrong.
-func TestRefusedTurnLeavesTheWorld(t *testing.T) {
-	for _, fault := range []func(*impl.Turn){
+// turnFaults each make plainTurn one that is not right for plainWorld.
+func turnFaults() []func(*impl.Turn) {
+	return []func(*impl.Turn){
 		func(turn *impl.Turn) { turn.Drifts[6] = 6 },
 		func(turn *impl.Turn) { turn.Drifts[0] = -6 },
 		func(turn *impl.Turn) { turn.Errs[6][6] = 4 },
@@ -884,7 +884,12 @@ func TestRefusedTurnLeavesTheWorld(t *testing.T) {
 		func(turn *impl.Turn) { turn.Rises = append(turn.Rises, false) },
 		func(turn *impl.Turn) { turn.Errs = append(turn.Errs, make([]int64, 7)) },
 		func(turn *impl.Turn) { turn.Lies = turn.Lies[1:] },
-	} {
+	}
+}
+
+// A refused turn leaves the world as it is, whichever of its parts is wrong.
+func TestRefusedTurnLeavesTheWorld(t *testing.T) {
+	for _, fault := range turnFaults() {
 		turn := plainTurn()
 		fault(&turn)
 		checkTurnOk(t, plainWorld(), turn, false)
@@ -1199,38 +1204,53 @@ func TestTurnsStay(t *testing.T) {
 	}
 }
 
+// checkListsApart takes two answers of one call, and writes over one list of each.
+func checkListsApart(t *testing.T, first impl.World, second impl.World) {
+	t.Helper()
+	want := cloneWorld(first)
+	fillRoom(first.Kinds)
+	fillRoom(second.Offs)
+	if !slices.Equal(first.Offs, want.Offs) || !slices.Equal(second.Kinds, want.Kinds) {
+		t.Errorf("%+v and %+v, want %+v", first, second, want)
+	}
+}
+
 // P19: the two lists of a turned world share no memory with each other, not even behind their ends.
 func TestTurnedListsAreApart(t *testing.T) {
 	for _, w := range memoryTurnWorlds() {
 		for _, turn := range memoryTurns() {
 			first, _ := impl.Turned(w, turn)
 			second, _ := impl.Turned(w, turn)
-			want := cloneWorld(first)
-			fillRoom(first.Kinds)
-			fillRoom(second.Offs)
-			if !slices.Equal(first.Offs, want.Offs) || !slices.Equal(second.Kinds, want.Kinds) {
-				t.Errorf("Turned(%+v, %+v): %+v and %+v, want %+v", w, turn, first, second, want)
-			}
+			checkListsApart(t, first, second)
 		}
 	}
 }
 
-// A world whose lists are one and the same, and a turn whose rows and flags are, is asked as any other.
-func TestTurnOfOneListManyTimes(t *testing.T) {
+// oneListWorld has two lists that are one and the same; its second node is down, its sixth one lies.
+func oneListWorld() impl.World {
 	both := []int64{up, down, up, up, up, lies, up}
-	w := world(meshOf(7, 2), both, both, 0)
+	return world(meshOf(7, 2), both, both, 0)
+}
+
+// oneListTurn has one row many times, and its flags once.
+func oneListTurn() impl.Turn {
 	row := []int64{1, -2, 3, -3, 2, -1, 0}
 	rows := [][]int64{row, row, row, row, row, row, row}
 	flags := make([]bool, 7)
-	turn := impl.Turn{Drifts: row, Errs: rows, Lies: rows, Falls: flags, Rises: flags}
+	return impl.Turn{Drifts: row, Errs: rows, Lies: rows, Falls: flags, Rises: flags}
+}
+
+// A world whose lists are one and the same, and a turn whose rows and flags are, is asked as any other.
+func TestTurnOfOneListManyTimes(t *testing.T) {
+	w, turn := oneListWorld(), oneListTurn()
 	checkTurnOk(t, w, turn, true)
 	// Those that are up are at 1, 3, -3, 2 and 0 in the middle, so they come to lie near these.
 	turned, is := impl.Turned(w, turn)
-	if !is || !slices.Equal(turned.Kinds, []int64{up, down, up, up, up, lies, up}) || turned.Turns != 1 {
+	if !is || !slices.Equal(turned.Kinds, oneListWorld().Kinds) || turned.Turns != 1 {
 		t.Errorf("%+v, %v", turned, is)
 	}
 	fillRoom(turned.Offs)
-	if !slices.Equal(turned.Kinds, both) || !slices.Equal(both, []int64{up, down, up, up, up, lies, up}) || !slices.Equal(row, []int64{1, -2, 3, -3, 2, -1, 0}) {
-		t.Errorf("%v, %v, %+v", both, row, turned)
+	if !slices.Equal(turned.Kinds, w.Kinds) || !sameWorld(w, oneListWorld()) || !slices.Equal(turn.Drifts, oneListTurn().Drifts) {
+		t.Errorf("%+v, %+v, %+v", w, turn, turned)
 	}
 }
