@@ -845,8 +845,8 @@ func splitTurn(w impl.World) impl.Turn {
 	return turn
 }
 
-// P7 at its limit: half of what they were in the middle, twice Err and 1 is just what they come to be apart,
-// where that is an odd number; where it is an even one, nothing is rounded, and it is 1 less.
+// P7 at its limit: half of what they were in the middle, rounded down, twice Err and 1 is just what they come
+// to be apart, where that was an odd number; where it was an even one, nothing is rounded, and it is 1 less.
 func TestHalfAndTwiceErrAndOneIsReached(t *testing.T) {
 	for liars := 1; liars <= 5; liars++ {
 		for _, err := range []int64{0, 1, 3, 100, maxDrift} {
