@@ -527,16 +527,22 @@ func memoryWorlds() []impl.World {
 }
 
 // inRoom puts a list between others, so that what is written ahead of it or behind it is seen.
-func inRoom(list []int64) (room []int64, held []int64) {
-	room = slices.Concat([]int64{31}, list, []int64{-99, 99, 50})
+func inRoom(list []int64) (room []int64, held []int64) { return roomAround(list, 31, -99, 99, 50) }
+
+// roomAround is inRoom for any list.
+func roomAround[T any](list []T, ahead T, behind ...T) (room []T, held []T) {
+	room = slices.Concat([]T{ahead}, list, behind)
 	return room, room[1 : 1+len(list)]
 }
 
 // fillRoom writes over a list up to the end of its own room.
-func fillRoom(list []int64) {
+func fillRoom(list []int64) { fillWith(list, 12345) }
+
+// fillWith is fillRoom for any list.
+func fillWith[T any](list []T, with T) {
 	list = list[:cap(list)]
 	for i := range list {
-		list[i] = 12345
+		list[i] = with
 	}
 }
 
